@@ -1,0 +1,1 @@
+"""Sparebay: pieces on the bays of any web, one bay empty."""

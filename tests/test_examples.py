@@ -1,0 +1,40 @@
+"""The worked examples of the document, as they stand there, and those of README.md."""
+
+import doctest
+import os
+import unittest
+
+EXAMPLES = {
+    "webs": """
+>>> from sparebay.webs import first_path, neighbours, sides
+>>> web = (4, ((0, 1), (0, 2), (1, 2), (2, 3)))
+>>> [neighbours(web, 2), first_path(web, 1, 3), sides(web)]
+[[0, 1, 3], [2, 3], None]
+""",
+    "blocks": """
+>>> from sparebay.blocks import blocks, gates, kinds, round_of
+>>> web = (4, ((0, 1), (0, 2), (1, 2), (2, 3)))
+>>> [blocks(web), gates(web), kinds(web), round_of(web, 0)]
+[[(0, 1, 2), (2, 3)], [0, 2], ['ring', 'bridge'], [0, 1, 2]]
+""",
+}
+README = os.path.join(os.path.dirname(os.path.dirname(os.path.abspath(__file__))), "README.md")
+
+
+class ExamplesTest(unittest.TestCase):
+
+    def check(self, text, name):
+        found = doctest.DocTestParser().get_doctest(text, {}, name, name, 0)
+        told = []
+        result = doctest.DocTestRunner(verbose=False).run(found, out=told.append)
+        self.assertGreater(result.attempted, 0)
+        self.assertEqual(result.failed, 0, "".join(told))
+
+    def test_worked_examples(self):
+        for name in EXAMPLES:
+            with self.subTest(name):
+                self.check(EXAMPLES[name], name)
+
+    def test_readme(self):
+        with open(README, encoding="utf-8") as file:
+            self.check(file.read(), "README.md")
