@@ -37,6 +37,18 @@ def steps_from(rows, start):
     return away
 
 
+def path_between(rows, a, b):
+    """Return the first of the shortest ways from a to b, without a."""
+    left = steps_from(rows, b)
+    path = []
+    at = a
+    while at != b:
+        nearer = [near for near in rows[at] if left[near] < left[at]]
+        at = nearer[0]
+        path.append(at)
+    return path
+
+
 def two_sides(rows):
     """Return 0 or 1 for each bay so that ties join unlike ones, or None."""
     # Once bay 0 has its side, each other bay's side follows from its distance.

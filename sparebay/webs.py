@@ -1,7 +1,7 @@
 """Webs: bays and the ties between them."""
 
 from sparebay.errors import NoBay, NoWeb
-from sparebay.graphs import is_whole, rows_of, steps_from, two_sides
+from sparebay.graphs import is_whole, path_between, rows_of, steps_from, two_sides
 
 FEWEST_BAYS = 2
 MOST_BAYS = 40
@@ -35,9 +35,14 @@ def need_web(web):
         raise NoWeb("this is not a web")
 
 
+def is_bay(web, thing):
+    """Tell whether a thing is a bay of the web."""
+    return is_whole(thing) and 0 <= thing < web[0]
+
+
 def need_bay(web, bay):
     """Raise NoBay for what is no bay of the web."""
-    if not is_whole(bay) or not 0 <= bay < web[0]:
+    if not is_bay(web, bay):
         raise NoBay("this is not a bay of the web")
 
 
@@ -53,15 +58,7 @@ def first_path(web, a, b):
     need_web(web)
     need_bay(web, a)
     need_bay(web, b)
-    rows = rows_of(web)
-    left = steps_from(rows, b)
-    path = []
-    at = a
-    while at != b:
-        nearer = [near for near in rows[at] if left[near] < left[at]]
-        at = nearer[0]
-        path.append(at)
-    return path
+    return path_between(rows_of(web), a, b)
 
 
 def sides(web):

@@ -7,15 +7,10 @@ from sparebay.blocks import blocks, gates, kinds, round_of
 from sparebay.errors import NoBlock, NoWeb
 from tests import reference
 from tests.reference import renamed, web_of
+from tests.samples import CHAIN, FULL, GRID, GRID_AND_TIE, PATH, ROUND, SEVEN
 from tests.values import NO_NUMBERS, NO_WEBS, TAILED
 
-PATH = (40, tuple((k, k + 1) for k in range(39)))
-ROUND = web_of(40, [(k, (k + 1) % 40) for k in range(40)])
-FULL = (40, tuple((a, b) for a in range(40) for b in range(a + 1, 40)))
 FAN = web_of(39, [(0, k) for k in range(1, 39)] + [(k, k + 1) for k in range(1, 39, 2)])
-CHAIN = web_of(40, [tie for k in range(0, 39, 3)
-                    for tie in [(k, k + 1), (k + 1, k + 2), (k + 2, k + 3), (k, k + 3)]])
-SEVEN = web_of(7, [(0, 1), (1, 2), (0, 3), (3, 4), (4, 2), (0, 5), (5, 6), (6, 2)])
 
 
 def three_ways(first, second, third):
@@ -136,9 +131,8 @@ class KindsTest(unittest.TestCase):
         self.assertEqual(kinds(web_of(6, [(0, 1), (1, 2), (2, 3), (3, 4), (4, 5), (0, 5), (0, 3)])), ["even"])
         self.assertEqual(kinds(web_of(6, [(0, 1), (1, 2), (2, 3), (3, 4), (4, 5), (0, 5), (0, 2)])), ["all"])
         self.assertEqual(kinds(FULL), ["all"])
-        grid = web_of(40, [(k, k + 1) for k in range(39) if k % 8 != 7] + [(k, k + 8) for k in range(32)])
-        self.assertEqual(kinds(grid), ["even"])
-        self.assertEqual(kinds(web_of(40, list(grid[1]) + [(30, 39)])), ["all"])
+        self.assertEqual(kinds(GRID), ["even"])
+        self.assertEqual(kinds(GRID_AND_TIE), ["all"])
 
     def test_the_seven_with_bays_named_in_any_way(self):
         for names in permutations(range(7)):

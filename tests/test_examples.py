@@ -17,6 +17,30 @@ EXAMPLES = {
 >>> [blocks(web), gates(web), kinds(web), round_of(web, 0)]
 [[(0, 1, 2), (2, 3)], [0, 2], ['ring', 'bridge'], [0, 1, 2]]
 """,
+    "standings": """
+>>> from sparebay.standings import done, led
+>>> web = (4, ((0, 1), (0, 2), (1, 2), (2, 3)))
+>>> [done(web, (0, 7, 8, 9), [1, 2]), led(web, (0, 7, 8, 9), 3)]
+[(7, 8, 0, 9), (8, 7, 9, 0)]
+""",
+    "judges, a ring": """
+>>> from sparebay.judges import judge
+>>> ring = (4, ((0, 1), (0, 3), (1, 2), (2, 3)))
+>>> [judge(ring, (0, 1, 2, 3), (0, 2, 3, 1)), judge(ring, (0, 1, 2, 3), (0, 2, 1, 3))]
+[('goes', 0), ('ring', 0)]
+""",
+    "judges, an even block": """
+>>> from sparebay.judges import judge
+>>> web = (5, ((0, 2), (0, 3), (0, 4), (1, 2), (1, 3), (1, 4)))
+>>> [judge(web, (0, 1, 2, 3, 4), (0, 2, 1, 3, 4)), judge(web, (0, 1, 2, 3, 4), (0, 2, 3, 1, 4))]
+[('sign', 0), ('goes', 0)]
+""",
+    "forms": """
+>>> from sparebay.forms import normal_form
+>>> ring = (4, ((0, 1), (0, 3), (1, 2), (2, 3)))
+>>> [normal_form(ring, (0, 3, 1, 2)), normal_form(ring, (0, 2, 1, 3))]
+[(0, 1, 2, 3), (0, 1, 3, 2)]
+""",
 }
 README = os.path.join(os.path.dirname(os.path.dirname(os.path.abspath(__file__))), "README.md")
 

@@ -14,6 +14,14 @@ ARGUMENTS = {
     "sparebay.blocks": {
         "blocks": ["web"], "gates": ["web"], "kinds": ["web"], "round_of": ["web", "k"],
     },
+    "sparebay.standings": {
+        "is_standing": ["web", "thing"], "is_loose": ["web", "thing"],
+        "done": ["web", "loose", "moves"], "led": ["web", "loose", "bay"],
+    },
+    "sparebay.judges": {
+        "judge": ["web", "one", "other"], "shows_judged": ["web", "one", "other", "thing"],
+    },
+    "sparebay.forms": {"normal_form": ["web", "standing"]},
 }
 TOP = os.path.dirname(os.path.dirname(os.path.abspath(__file__)))
 PACKAGE = os.path.join(TOP, "sparebay")

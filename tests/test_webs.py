@@ -6,15 +6,10 @@ import unittest
 from sparebay.errors import NoBay, NoWeb
 from sparebay.webs import first_path, is_web, neighbours, sides
 from tests import reference
+from tests.samples import FULL, GRID, PATH, ROUND, STAR
 from tests.values import ANYTHING, NO_NUMBERS, NO_WEBS, TAILED, deep, deep_list
 
-PATH = (40, tuple((k, k + 1) for k in range(39)))
-STAR = (40, tuple((0, k) for k in range(1, 40)))
-ROUND = (40, ((0, 1), (0, 39)) + tuple((k, k + 1) for k in range(1, 39)))
-FULL = (40, tuple((a, b) for a in range(40) for b in range(a + 1, 40)))
 TREE = (40, tuple(((k - 1) // 2, k) for k in range(1, 40)))
-GRID = reference.web_of(40, [(k, k + 1) for k in range(39) if k % 8 != 7]
-                        + [(k, k + 8) for k in range(32)])
 SIX = [(0, 1), (1, 2), (2, 3), (3, 4), (4, 5), (0, 5)]
 
 

@@ -51,3 +51,37 @@ NO_NUMBERS = [
     None, True, False, "", "0", "1", b"1", (), (0,), (1,), [], [0], [1], {}, {0: 1}, {1: 0},
     deep(12), deep_list(12), 10 ** 59, -10 ** 59, -1, -2,
 ]
+
+# What is neither a standing nor a loose one of a web of four bays.
+NO_LOOSE = ANYTHING + [
+    # a list or another kind for a tuple
+    [0, 7, 8, 9], [7, 8, 9, 0], {0: 7, 1: 8, 2: 9, 3: 0}, "0789", ((0, 7, 8, 9),), [(0, 7, 8, 9)],
+    # a wrong length
+    (0,), (7,), (0, 7), (0, 7, 8), (0, 7, 8, 9, 10), (0, 7, 8, 9, 0), tuple(range(40)), tuple(range(20000)),
+    # two empty bays, or none, or more
+    (0, 0, 8, 9), (7, 0, 8, 0), (0, 0, 0, 0), (0, 0, 0, 7), (7, 8, 9, 10), (7, 7, 7, 7), (1, 2, 3, 4),
+    # members that are no pieces
+    (0, 7, 8, 1000), (0, 1000, 8, 9), (1001, 0, 8, 9), (0, 7, 8, -1), (0, -7, 8, 9), (-1, 0, 8, 9),
+    (0, 7, 8, 10 ** 60), (-10 ** 60, 0, 7, 8), (0, 7, 8, True), (True, 0, 8, 9), (False, 7, 8, 9),
+    (7, 8, 9, False), (0, False, 8, 9), (0, 7, 8, "9"), ("0", 7, 8, 9), ("", 7, 8, 9), (0, 7, 8, ""),
+    (0, 7, 8, None), (None, 7, 8, 9), (0, None, None, None), (0, 7, 8, (9,)), ((0,), 7, 8, 9), ((), 7, 8, 9),
+    (0, 7, 8, [9]), ([], 7, 8, 9), (0, 7, 8, {}), ({}, 7, 8, 9), (0, 7, 8, b"9"),
+    (0, 7, 8, deep(11)), (0, deep_list(11), 8, 9), (deep(11), 7, 8, 9), (deep(11), deep(11), deep_list(11), ()),
+]
+
+# These are loose standings of a web of four bays, but no standings.
+LOOSE_ONLY = [
+    (0, 7, 7, 9), (7, 0, 9, 7), (9, 9, 0, 9), (1, 1, 1, 0), (0, 999, 1, 999), (999, 999, 999, 0),
+]
+
+NO_MOVES = [thing for thing in ANYTHING if thing != []] + [
+    # a tuple or another kind for a list
+    (1,), (1, 2), (0, 1, 2), {1: 2}, "12", "1", b"12", ([1],), ([1], [2]),
+    # members that are no bays of a web of four bays
+    [4], [-1], [1, 4], [4, 1], [1, 2, 0, 4], [1, 2, 0, -1], [10 ** 60], [-10 ** 60, 1], [1, 40],
+    [True], [False], [1, True], [True, 2], [1, 2, False], ["1"], [""], ["1", "2"], [1, "2"], [b"1"],
+    [None], [1, None], [(1,)], [1, (2,)], [(1, 2)], [[1, 2]], [1, [2]], [[]], [()], [{}], [{1: 2}],
+    [deep(11)], [1, deep_list(10)], [deep_list(10), deep_list(10)],
+    # and behind a move that is bad
+    [3, 4], [0, 4], [3, -1], [3, True], [0, None], [3, 0, 3, "1"], [2, 2, 2, []],
+]
