@@ -49,6 +49,12 @@ def path_between(rows, a, b):
     return path
 
 
+def path_back(rows, a, b):
+    """Return the bays from a to b, without a, on the way by which b leads to a."""
+    there = [b] + path_between(rows, b, a)
+    return there[::-1][1:]
+
+
 def two_sides(rows):
     """Return 0 or 1 for each bay so that ties join unlike ones, or None."""
     # Once bay 0 has its side, each other bay's side follows from its distance.

@@ -11,17 +11,21 @@ from sparebay.graphs import blocks_with_gates
 from sparebay.slides import slid, tour_over
 
 
-def first_orders(rows, standing):
-    """Return (block, order) for each block: the first order that its pieces can have.
+def orders_held(rows, loose):
+    """Return (block, order) for each block of a loose standing.
 
-    The empty bay of the standing is bay 0. From there it comes to the gate of
-    a block without a move of what the block holds.
+    Its empty bay is bay 0. From there it comes to the gate of a block without
+    a move of what the block holds.
     """
     found = []
     for block, gate in blocks_with_gates(rows):
-        order = tuple([0 if bay == gate else standing[bay] for bay in block])
-        found.append((block, first_order(rows, block, order)))
+        found.append((block, tuple([0 if bay == gate else loose[bay] for bay in block])))
     return found
+
+
+def first_orders(rows, standing):
+    """Return (block, order) for each block: the first order that its pieces can have."""
+    return [(block, first_order(rows, block, order)) for block, order in orders_held(rows, standing)]
 
 
 def first_order(rows, block, order):

@@ -3,7 +3,7 @@
 Nothing here looks whether its arguments are right, as in sparebay.graphs.
 """
 
-from sparebay.graphs import path_between
+from sparebay.graphs import path_back, path_between
 
 
 def tied_along(rows, start, moves):
@@ -35,5 +35,4 @@ def led_to(rows, loose, bay):
 def tour_over(rows, start, a, b):
     """Return the bays from start to a, over the tie to b, and back to start."""
     # Out to a as from a back: so all ways out and back lie on one tree.
-    back = [a] + path_between(rows, a, start)
-    return back[::-1][1:] + [b] + path_between(rows, b, start)
+    return path_back(rows, start, a) + [b] + path_between(rows, b, start)

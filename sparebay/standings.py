@@ -74,7 +74,12 @@ def need_match(web, one, other):
         raise NoMatch("the standings have not the same pieces")
 
 
+def are_bays(web, thing):
+    """Tell whether a thing is a list of bays of the web."""
+    return isinstance(thing, list) and all([is_bay(web, bay) for bay in thing])
+
+
 def need_moves(web, moves):
     """Raise NoMoves for what is no list of bays of the web."""
-    if not isinstance(moves, list) or not all([is_bay(web, bay) for bay in moves]):
+    if not are_bays(web, moves):
         raise NoMoves("this is not a list of bays")

@@ -83,14 +83,15 @@ def blocks(web):
 
 def gates(web):
     """The bay of each block that can be come to from bay 0 by no other one of it."""
-    found = []
-    for block in blocks(web):
-        first = [bay for bay in block if 0 not in block or bay == 0]
-        first = [bay for bay in first
-                 if bay in reached(web, 0, [other for other in block if other != bay])]
-        assert len(first) == 1
-        found.append(first[0])
-    return found
+    return [gate_of(web, block) for block in blocks(web)]
+
+
+def gate_of(web, block):
+    first = [bay for bay in block if 0 not in block or bay == 0]
+    first = [bay for bay in first
+             if bay in reached(web, 0, [other for other in block if other != bay])]
+    assert len(first) == 1
+    return first[0]
 
 
 def ties_within(web, block):

@@ -60,6 +60,38 @@ OF_SEVEN_BAYS = [
     web_of(7, [(0, 1), (1, 2), (2, 3), (3, 4), (4, 5), (5, 6), (6, 0), (0, 2)]),
 ]
 
+BRIDGE = (2, ((0, 1),))
+# One block each, of up to seven bays and of each kind.
+BLOCKS = [
+    BRIDGE, (3, ((0, 1), (0, 2), (1, 2))), RING, web_of(7, [(k, (k + 1) % 7) for k in range(7)]),
+    EVEN, web_of(6, [(a, b) for a in (0, 2, 5) for b in (1, 3, 4)]),
+    web_of(7, [(a, b) for a in (0, 1, 2) for b in (3, 4, 5, 6)]),
+    ALL, web_of(6, [(0, 1), (1, 2), (2, 3), (3, 4), (4, 5), (0, 5), (3, 5)]),
+    web_of(7, [(a, b) for a in range(7) for b in range(a)]), SEVEN,
+]
+# Blocks of more than seven bays: an even one, an "all" one, a ring.
+GREAT_BLOCKS = [
+    web_of(8, [(a, b) for a in (0, 1) for b in range(2, 8)]),
+    web_of(9, [(k, (k + 1) % 9) for k in range(9)] + [(0, 3), (0, 5)]),
+    web_of(12, [(k, (k + 1) % 12) for k in range(12)]),
+]
+
+
+def put_together(parts, random):
+    """A web of blocks put together at bays, its bays named anyhow; and the list of its blocks."""
+    n, ties = 1, []
+    blocks = []
+    for many, inner in parts:
+        places = list(range(n, n + many - 1))
+        places.insert(random.randrange(many), random.randrange(n))
+        ties += [(places[a], places[b]) for a, b in inner]
+        blocks.append(places)
+        n += many - 1
+    names = random.sample(range(n), n)
+    web = web_of(n, [(names[a], names[b]) for a, b in ties])
+    return web, sorted(tuple(sorted(names[bay] for bay in block)) for block in blocks)
+
+
 # Bay 0 in a ring and in a bridge; behind them a seven, an even block, an "all" one, a ring.
 MIXED = web_of(23, [(0, 20), (20, 1), (1, 0), (0, 2), (2, 3)]
                + [(3, 4), (4, 5), (3, 6), (6, 7), (7, 5), (3, 8), (8, 9), (9, 5)]

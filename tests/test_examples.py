@@ -41,6 +41,24 @@ EXAMPLES = {
 >>> [normal_form(ring, (0, 3, 1, 2)), normal_form(ring, (0, 2, 1, 3))]
 [(0, 1, 2, 3), (0, 1, 3, 2)]
 """,
+    "ways": """
+>>> from sparebay.ways import fewest, levels
+>>> web = (4, ((0, 1), (0, 2), (1, 2), (2, 3)))
+>>> [len(fewest(web, (0, 7, 8, 9), (0, 8, 7, 9))), levels((3, ((0, 1), (0, 2), (1, 2))), (0, 1, 2))]
+[3, [1, 2, 2, 1]]
+""",
+    "tours": """
+>>> from sparebay.tours import done_many, order_of, turned
+>>> web = (4, ((0, 1), (0, 2), (1, 2), (2, 3)))
+>>> [turned(web, 0, [1, 2, 0]), order_of(web, 0, [1, 2, 0]), done_many(web, (0, 7, 8, 9), [1, 2, 0], 10 ** 30 - 1)]
+[(0, 2, 1, 3), 2, (0, 8, 7, 9)]
+""",
+    "counts": """
+>>> from sparebay.counts import classes, how_many, mends
+>>> ring = (4, ((0, 1), (0, 3), (1, 2), (2, 3)))
+>>> [how_many(ring, (0, 5, 5, 6)), classes(ring), mends(ring)]
+[12, 2, [(0, 2), (1, 3)]]
+""",
 }
 README = os.path.join(os.path.dirname(os.path.dirname(os.path.abspath(__file__))), "README.md")
 

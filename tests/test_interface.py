@@ -22,6 +22,14 @@ ARGUMENTS = {
         "judge": ["web", "one", "other"], "shows_judged": ["web", "one", "other", "thing"],
     },
     "sparebay.forms": {"normal_form": ["web", "standing"]},
+    "sparebay.ways": {
+        "way": ["web", "one", "other"], "fewest": ["web", "one", "other"], "levels": ["web", "loose"],
+    },
+    "sparebay.tours": {
+        "turned": ["web", "bay", "tour"], "order_of": ["web", "bay", "tour"],
+        "done_many": ["web", "loose", "tour", "times"],
+    },
+    "sparebay.counts": {"how_many": ["web", "loose"], "classes": ["web"], "mends": ["web"]},
 }
 TOP = os.path.dirname(os.path.dirname(os.path.abspath(__file__)))
 PACKAGE = os.path.join(TOP, "sparebay")

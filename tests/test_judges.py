@@ -17,14 +17,6 @@ TWO_RINGS = reference.web_of(6, [(0, 1), (1, 2), (2, 0), (2, 3), (3, 4), (4, 5),
 WORDS = ("goes", "held", "ring", "class", "sign")
 
 
-def exchanged(standing, *bays):
-    """A standing with the pieces at these bays each at the next one of them."""
-    after = list(standing)
-    for k, bay in enumerate(bays):
-        after[bays[k - len(bays) + 1]] = standing[bay]
-    return tuple(after)
-
-
 def strolled(web, standing, seed):
     """A standing that moves reach from this one, its empty bay anywhere."""
     return done(web, standing, walks.strolled(web, standing, 150 + seed % 7, seed))
@@ -83,20 +75,20 @@ class JudgeTest(unittest.TestCase):
     def test_the_first_block_that_does_not_stand_so(self):
         web = reference.web_of(7, [(0, 1), (1, 2), (2, 3), (3, 0), (0, 4), (4, 5), (5, 6), (6, 0)])
         one = (0, 1, 2, 3, 4, 5, 6)
-        self.check(web, one, exchanged(one, 4, 5), ("ring", 1))
-        self.check(web, one, exchanged(one, 1, 3), ("ring", 0))
-        self.check(web, one, exchanged(exchanged(one, 4, 5), 1, 3), ("ring", 0), ("ring", 1))
-        self.check(web, one, exchanged(exchanged(one, 4, 5, 6), 1, 3, 2), GOES)
+        self.check(web, one, walks.exchanged(one, 4, 5), ("ring", 1))
+        self.check(web, one, walks.exchanged(one, 1, 3), ("ring", 0))
+        self.check(web, one, walks.exchanged(walks.exchanged(one, 4, 5), 1, 3), ("ring", 0), ("ring", 1))
+        self.check(web, one, walks.exchanged(walks.exchanged(one, 4, 5, 6), 1, 3, 2), GOES)
 
     def test_a_block_that_does_not_stand_so_where_others_hold_other_pieces(self):
         one = tuple(range(23))
         bars = [("held", 2), ("held", 11)]
-        self.check(MIXED, one, exchanged(one, 2, 11), *bars)
+        self.check(MIXED, one, walks.exchanged(one, 2, 11), *bars)
         bars.append(("class", 3))
-        other = exchanged(exchanged(one, 2, 11), 4, 6)
+        other = walks.exchanged(walks.exchanged(one, 2, 11), 4, 6)
         self.check(MIXED, one, other, *bars)
         bars.append(("ring", 6))
-        other = exchanged(other, 17, 19)
+        other = walks.exchanged(other, 17, 19)
         self.check(MIXED, one, other, *bars)
         self.check(MIXED, strolled(MIXED, one, 3), strolled(MIXED, other, 4), *bars)
         self.check(MIXED, strolled(MIXED, other, 5), strolled(MIXED, one, 6), *bars)
@@ -110,10 +102,10 @@ class JudgeTest(unittest.TestCase):
             bars = [bar for k, bar in enumerate(changes) if bits >> k & 1]
             other = one
             for bar in bars:
-                other = exchanged(other, *changes[bar])
+                other = walks.exchanged(other, *changes[bar])
             # These change nothing that asks for anything: an "all" block, a ring of two pieces.
-            other = exchanged(exchanged(other, 14, 15), 1, 20)
-            other = exchanged(exchanged(other, 11, 12, 13), 17, 18, 19)
+            other = walks.exchanged(walks.exchanged(other, 14, 15), 1, 20)
+            other = walks.exchanged(walks.exchanged(other, 11, 12, 13), 17, 18, 19)
             for seed in range(3):
                 self.check(MIXED, strolled(MIXED, one, seed), strolled(MIXED, other, seed + 3), *(bars or [GOES]))
 
@@ -123,13 +115,13 @@ class JudgeTest(unittest.TestCase):
             one = strolled(GRID, start, seed)
             for web, swapped in ((GRID, ("sign", 0)), (GRID_AND_TIE, GOES), (FULL, GOES)):
                 self.assertEqual(judge(web, one, strolled(web, start, seed + 4)), GOES)
-                other = strolled(web, exchanged(start, 3, 17), seed + 5)
+                other = strolled(web, walks.exchanged(start, 3, 17), seed + 5)
                 self.assertEqual(judge(web, one, other), swapped)
                 self.assertIs(shows_judged(web, one, other, GOES), swapped == GOES)
                 self.assertIs(shows_judged(web, one, other, ("sign", 0)), swapped != GOES)
-                other = strolled(web, exchanged(start, 3, 17, 30), seed + 5)
+                other = strolled(web, walks.exchanged(start, 3, 17, 30), seed + 5)
                 self.assertEqual(judge(web, one, other), GOES)
-                other = strolled(web, exchanged(start, 3, 17, 30, 31), seed + 5)
+                other = strolled(web, walks.exchanged(start, 3, 17, 30, 31), seed + 5)
                 self.assertEqual(judge(web, one, other), swapped)
 
     def test_a_great_ring(self):
@@ -138,22 +130,22 @@ class JudgeTest(unittest.TestCase):
             turned = (0,) + start[1 + shift:] + start[1:1 + shift]
             self.assertEqual(judge(ROUND, start, turned), GOES)
             self.assertEqual(judge(ROUND, strolled(ROUND, start, shift), strolled(ROUND, turned, 9)), GOES)
-            self.check(ROUND, start, exchanged(turned, 7, 8), ("ring", 0))
-            self.check(ROUND, exchanged(start, 1, 20, 39), strolled(ROUND, turned, shift), ("ring", 0))
+            self.check(ROUND, start, walks.exchanged(turned, 7, 8), ("ring", 0))
+            self.check(ROUND, walks.exchanged(start, 1, 20, 39), strolled(ROUND, turned, shift), ("ring", 0))
         self.check(ROUND, start, (0,) + start[:0:-1], ("ring", 0))
 
     def test_great_webs_of_many_blocks(self):
         start = tuple(range(40))
         for web in (PATH, STAR):
             self.check(web, start, strolled(web, start, 1), GOES)
-            self.check(web, strolled(web, start, 2), strolled(web, exchanged(start, 9, 12), 3),
+            self.check(web, strolled(web, start, 2), strolled(web, walks.exchanged(start, 9, 12), 3),
                        ("held", 9), ("held", 12))
             self.assertEqual(judge(web, start, (0,) + start[:0:-1]), ("held", 1))
-        other = exchanged(start, 1, 3)
+        other = walks.exchanged(start, 1, 3)
         self.check(CHAIN, strolled(CHAIN, start, 1), strolled(CHAIN, other, 2), ("ring", 0))
-        other = exchanged(exchanged(start, 38, 39), 20, 21, 19)
+        other = walks.exchanged(walks.exchanged(start, 38, 39), 20, 21, 19)
         self.check(CHAIN, strolled(CHAIN, start, 3), strolled(CHAIN, other, 4), ("ring", 12))
-        other = exchanged(exchanged(other, 5, 6), 30, 11)
+        other = walks.exchanged(walks.exchanged(other, 5, 6), 30, 11)
         self.check(CHAIN, strolled(CHAIN, start, 5), strolled(CHAIN, other, 6),
                    ("held", 11), ("held", 30), ("ring", 1), ("ring", 12))
 
@@ -233,7 +225,7 @@ class WalkTest(unittest.TestCase):
                 other = random.choice(sorted(group))
                 self.check(web, one, other, True)
                 bays = some_held_bays(web, random)
-                other = walks.led(web, exchanged(walks.led(web, other, 0), *bays), one.index(0))
+                other = walks.led(web, walks.exchanged(walks.led(web, other, 0), *bays), one.index(0))
                 self.check(web, one, other, other in group)
 
     def test_the_seven_with_bays_named_in_any_way(self):
@@ -306,7 +298,7 @@ class ShowsJudgedTest(unittest.TestCase):
     def test_each_word_is_that_of_the_kind(self):
         for web, word in ((RING, "ring"), (EVEN, "sign"), (SEVEN, "class")):
             one = tuple(range(web[0]))
-            other = exchanged(one, 1, 2)
+            other = walks.exchanged(one, 1, 2)
             for told in WORDS + ("even", "seven", "all", "bridge", "block"):
                 self.assertIs(shows_judged(web, one, other, (told, 0)), told == word)
 

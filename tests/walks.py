@@ -1,5 +1,6 @@
 """Standings by the words of the document: walks over moves, and bars, for small webs."""
 
+from collections import deque
 from itertools import permutations
 from random import Random
 
@@ -19,6 +20,14 @@ def moved(standing, bay):
     return tuple(after)
 
 
+def exchanged(standing, *bays):
+    """A standing with the pieces at these bays each at the next one of them."""
+    after = list(standing)
+    for k, bay in enumerate(bays):
+        after[bays[k - len(bays) + 1]] = standing[bay]
+    return tuple(after)
+
+
 def walked(web, standing):
     """The set of all standings that moves reach."""
     rows = [reference.near(web, bay) for bay in range(web[0])]
@@ -30,6 +39,21 @@ def walked(web, standing):
             after = moved(at, bay)
             if after not in found:
                 found.add(after)
+                todo.append(after)
+    return found
+
+
+def steps(web, standing):
+    """For each standing that moves reach, by how few moves it is reached."""
+    rows = [reference.near(web, bay) for bay in range(web[0])]
+    found = {standing: 0}
+    todo = deque([standing])
+    while todo:
+        at = todo.popleft()
+        for bay in rows[at.index(0)]:
+            after = moved(at, bay)
+            if after not in found:
+                found[after] = found[at] + 1
                 todo.append(after)
     return found
 
