@@ -59,24 +59,29 @@ def rows_within(rows, block):
 
 def ways_of_seven(inner):
     """Tell whether a block by itself is seven bays on ways of one, two and two."""
-    forks = [bay for bay in range(len(inner)) if len(inner[bay]) > 2]
+    forks = forks_of(inner)
     if len(inner) != 7 or sum([len(row) for row in inner]) != 2 * 8:
         return False
     # A block with just one tie more than bays is three ways between two forks.
-    passed = [bays_passed(inner, forks[0], near) for near in inner[forks[0]]]
+    passed = [len(bays_passed(inner, forks[0], near)) for near in inner[forks[0]]]
     return sorted(passed) == [1, 2, 2]
 
 
+def forks_of(inner):
+    """Return the bays of a block by itself that are tied to more than two others."""
+    return [bay for bay in range(len(inner)) if len(inner[bay]) > 2]
+
+
 def bays_passed(inner, fork, near):
-    """Return how many bays a way from a fork, by the bay near, has up to a fork."""
-    passed = 0
+    """Return the bays on a way from a fork, by the bay near, up to a fork."""
+    passed = []
     behind = fork
     at = near
     while len(inner[at]) == 2:
+        passed.append(at)
         ahead = [bay for bay in inner[at] if bay != behind]
         behind = at
         at = ahead[0]
-        passed += 1
     return passed
 
 

@@ -3,7 +3,7 @@
 from math import factorial
 
 from sparebay.blocks import kind_of
-from sparebay.graphs import rows_of
+from sparebay.graphs import rows_of, with_tie
 from sparebay.orders import orders_held, orders_made, turns_within
 from sparebay.slides import led_to
 from sparebay.standings import need_loose, no_two_alike
@@ -30,7 +30,7 @@ def mends(web):
     found = []
     for a in range(n):
         for b in range(a + 1, n):
-            if (a, b) not in ties and classes_of(rows_of((n, tuple(sorted([*ties, (a, b)]))))) == 1:
+            if (a, b) not in ties and classes_of(rows_of(with_tie(web, a, b))) == 1:
                 found.append((a, b))
     return found
 

@@ -21,6 +21,12 @@ def rows_of(web):
     return rows
 
 
+def with_tie(web, a, b):
+    """Return a web with one tie more."""
+    n, ties = web
+    return (n, tuple(sorted([*ties, (a, b)])))
+
+
 def steps_from(rows, start):
     """Return for each bay how many ties it is away from start, -1 for no way."""
     away = [-1] * len(rows)

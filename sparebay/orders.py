@@ -23,6 +23,17 @@ def orders_held(rows, loose):
     return found
 
 
+def put_together(many, orders):
+    """Return the loose standing of so many bays, bay 0 empty, whose blocks have these orders."""
+    found = [0] * many
+    for block, order in orders:
+        for bay, piece in zip(block, order):
+            # A gate that is empty in this block has a piece of the block that holds it.
+            if piece:
+                found[bay] = piece
+    return tuple(found)
+
+
 def first_orders(rows, standing):
     """Return (block, order) for each block: the first order that its pieces can have."""
     return [(block, first_order(rows, block, order)) for block, order in orders_held(rows, standing)]

@@ -25,10 +25,8 @@ def done(web, loose, moves):
     need_web(web)
     need_loose(web, loose)
     need_moves(web, moves)
-    empty = loose.index(0)
-    if not tied_along(rows_of(web), empty, moves):
-        raise BadMove("a bay of the moves is not tied to the empty one")
-    return tuple(slid(loose, empty, moves))
+    need_tied(rows_of(web), loose, moves)
+    return tuple(slid(loose, loose.index(0), moves))
 
 
 def led(web, loose, bay):
@@ -41,11 +39,21 @@ def led(web, loose, bay):
 
 def fits_loosely(web, thing):
     """Tell whether a thing is a loose standing of what surely is a web."""
+    return fits_openly(web, thing) and None not in thing
+
+
+def fits_openly(web, thing):
+    """Tell whether a thing is a loose standing, but that it may have None at bays."""
     if not isinstance(thing, tuple) or len(thing) != web[0]:
         return False
-    if not all([is_whole(piece) and 0 <= piece <= GREATEST_PIECE for piece in thing]):
+    if not all([piece is None or is_piece_or_0(piece) for piece in thing]):
         return False
     return thing.count(0) == 1
+
+
+def is_piece_or_0(thing):
+    """Tell whether a thing is a piece, or 0 for the empty bay."""
+    return is_whole(thing) and 0 <= thing <= GREATEST_PIECE
 
 
 def no_two_alike(loose):
@@ -72,6 +80,12 @@ def need_match(web, one, other):
     need_standing(web, other)
     if sorted(one) != sorted(other):
         raise NoMatch("the standings have not the same pieces")
+
+
+def need_tied(rows, loose, moves):
+    """Raise BadMove if a bay of some moves is not tied to the empty one by then."""
+    if not tied_along(rows, loose.index(0), moves):
+        raise BadMove("a bay that is moved from is not tied to the empty one")
 
 
 def are_bays(web, thing):

@@ -59,6 +59,34 @@ EXAMPLES = {
 >>> [how_many(ring, (0, 5, 5, 6)), classes(ring), mends(ring)]
 [12, 2, [(0, 2), (1, 3)]]
 """,
+    "wishes": """
+>>> from sparebay.wishes import meeting
+>>> ring = (4, ((0, 1), (0, 3), (1, 2), (2, 3)))
+>>> [meeting(ring, (0, 1, 2, 3), (0, 2, None, None)), meeting(ring, (0, 1, 2, 3), (0, 2, 1, None))]
+[(0, 2, 3, 1), None]
+""",
+    "yards": """
+>>> from sparebay.yards import Yard, trial
+>>> yard = Yard((4, ((0, 1), (0, 2), (1, 2), (2, 3))), (0, 7, 8, 9))
+>>> yard.shift(7, 2)
+>>> [yard.standing()[2], len(yard), trial(yard, ['undo', ('move', 1)])]
+[7, 1, [(0, 7, 8, 9), (7, 0, 8, 9)]]
+""",
+    "whys": """
+>>> from sparebay.whys import shows_why, why
+>>> ring, one, other = (4, ((0, 1), (0, 3), (1, 2), (2, 3))), (0, 1, 2, 3), (0, 2, 1, 3)
+>>> [shows_why(ring, one, other, ('ring', (0, 1, 2, 3))), shows_why(ring, one, other, ('sign', (0, 2), (1, 3))), why(ring, one, one)]
+[True, True, None]
+""",
+    "halls": """
+>>> from sparebay.halls import Hall
+>>> hall = Hall((4, ((0, 1), (0, 2), (1, 2), (2, 3))), (0, 7, 8, 9))
+>>> hall.keep((0, 8, 7, None))
+>>> hall.tie(0, 3)
+>>> hall.untie(2, 3)
+>>> [hall.web_now()[1], hall.met(), len(hall)]
+[((0, 1), (0, 2), (0, 3), (1, 2)), [(0, 8, 7, 9)], 3]
+""",
 }
 README = os.path.join(os.path.dirname(os.path.dirname(os.path.abspath(__file__))), "README.md")
 

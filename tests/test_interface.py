@@ -30,6 +30,19 @@ ARGUMENTS = {
         "done_many": ["web", "loose", "tour", "times"],
     },
     "sparebay.counts": {"how_many": ["web", "loose"], "classes": ["web"], "mends": ["web"]},
+    "sparebay.wishes": {"meeting": ["web", "loose", "wish"]},
+    "sparebay.yards": {"trial": ["yard", "things"]},
+    "sparebay.whys": {"why": ["web", "one", "other"], "shows_why": ["web", "one", "other", "thing"]},
+}
+METHODS = {
+    ("sparebay.yards", "Yard"): {
+        "__init__": ["web", "standing"], "move": ["bay"], "lead": ["bay"], "shift": ["piece", "bay"], "undo": [],
+        "standing": [], "moves": [], "asked": ["other"], "__len__": [], "__enter__": [], "__exit__": None,
+    },
+    ("sparebay.halls", "Hall"): {
+        "__init__": ["web", "standing"], "move": ["bay"], "tie": ["a", "b"], "untie": ["a", "b"], "keep": ["wish"],
+        "drop": ["wish"], "undo": [], "web_now": [], "standing": [], "wishes": [], "met": [], "__len__": [],
+    },
 }
 TOP = os.path.dirname(os.path.dirname(os.path.abspath(__file__)))
 PACKAGE = os.path.join(TOP, "sparebay")
@@ -50,12 +63,23 @@ class InterfaceTest(unittest.TestCase):
         for module in ARGUMENTS:
             held = importlib.import_module(module)
             for name, arguments in ARGUMENTS[module].items():
-                function = getattr(held, name)
-                told = inspect.signature(function).parameters
-                self.assertEqual(list(told), arguments, name)
-                for argument in told.values():
-                    self.assertEqual(argument.kind, argument.POSITIONAL_OR_KEYWORD, name)
-                    self.assertIs(argument.default, argument.empty, name)
+                self.assert_takes(getattr(held, name), arguments)
+
+    def test_methods_and_their_arguments(self):
+        for (module, name), methods in METHODS.items():
+            held = getattr(importlib.import_module(module), name)
+            for method, arguments in methods.items():
+                # Each stands in the class itself, not only in a base class.
+                function = vars(held)[method]
+                if arguments is not None:
+                    self.assert_takes(function, ["self"] + arguments)
+
+    def assert_takes(self, function, arguments):
+        told = inspect.signature(function).parameters
+        self.assertEqual(list(told), arguments, function)
+        for argument in told.values():
+            self.assertEqual(argument.kind, argument.POSITIONAL_OR_KEYWORD, function)
+            self.assertIs(argument.default, argument.empty, function)
 
     def test_each_is_defined_in_its_file(self):
         texts = dict(files())
@@ -64,6 +88,9 @@ class InterfaceTest(unittest.TestCase):
             defined = [row.name for row in tree.body if isinstance(row, ast.FunctionDef)]
             for name in ARGUMENTS[module]:
                 self.assertEqual(defined.count(name), 1, name)
+        for module, name in METHODS:
+            tree = ast.parse(texts[module.split(".")[1] + ".py"])
+            self.assertEqual([row.name for row in tree.body if isinstance(row, ast.ClassDef)].count(name), 1)
 
 
 class FilesTest(unittest.TestCase):
